@@ -26,6 +26,9 @@ func TestNew(t *testing.T) {
 			t.Errorf("New(%d): %d", most, err)
 		}
 	}
+	if one := fresh(t, 1); one.Left() != 1 {
+		t.Error("an arena of one place", one.Left())
+	}
 	a := fresh(t, api.MaxNodes)
 	if a.Len() != 0 || a.Left() != api.MaxNodes || a.Top() != 0 {
 		t.Error("a new arena", a.Len(), a.Left(), a.Top())
@@ -181,6 +184,23 @@ func TestAgainstPlain(t *testing.T) {
 	}
 	for range a.All() {
 		break
+	}
+}
+
+func TestForkOfOne(t *testing.T) {
+	a := fresh(t, 4)
+	a.Take("a")
+	f := a.Fork()
+	f.Set(1, "z")
+	a.Give(1)
+	g := a.Fork()
+	take(t, g, 1)
+	take(t, a, 1)
+	if v, _ := a.Get(1); v != "x" {
+		t.Error(v)
+	}
+	if v, ok := f.Get(1); v != "z" || !ok {
+		t.Error(v, ok)
 	}
 }
 

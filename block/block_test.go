@@ -185,6 +185,12 @@ func TestPackComesBack(t *testing.T) {
 			t.Fatal("entries beside an error")
 		}
 	}
+	if got, err := block.Unpack("\x02\x00\x00\x00\x00\x01a\x00"); err != api.OK || !slices.Equal(got, ents("", "", "a", "")) {
+		t.Error("an empty key", got, err)
+	}
+	if got, err := block.Unpack("\x00"); err != api.OK || len(got) != 0 {
+		t.Error("no entries", got, err)
+	}
 	// A key may become longer than one that is packed may be.
 	long := ents(strings.Repeat("k", api.MaxKey), "", strings.Repeat("k", api.MaxKey)+"l", "")
 	if got, err := block.Unpack(block.Pack(long)); err != api.OK || !slices.Equal(got, long) {

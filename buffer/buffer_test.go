@@ -115,7 +115,7 @@ func TestBytesAndNewest(t *testing.T) {
 	if n := buffer.Bytes(l); n != 19+18+17 || buffer.Bytes(nil) != 0 {
 		t.Error("Bytes", n)
 	}
-	if buffer.Newest(l) != 7 || buffer.Newest(nil) != 0 || buffer.Newest([]api.Msg{put(-5, "a"), put(-3, "a")}) != -3 {
+	if buffer.Newest(l) != 7 || buffer.Newest(nil) != 0 || buffer.Newest([]api.Msg{put(-5, "a"), put(-3, "a")}) != -3 || buffer.Newest([]api.Msg{put(-5, "a")}) != -5 {
 		t.Error("Newest")
 	}
 }

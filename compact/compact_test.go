@@ -172,6 +172,11 @@ func TestInverse(t *testing.T) {
 	if got := compact.Inverse(l, e); !slices.Equal(got, want) {
 		t.Errorf("Inverse: %+v", got)
 	}
+	// Of entries of the same key the first one counts.
+	twice := []api.Entry{{Key: "b", Value: "first"}, {Key: "a", Value: "1"}, {Key: "b", Value: "second"}}
+	if got := compact.Inverse([]api.Msg{del(1, "b")}, twice); !slices.Equal(got, []api.Msg{put(0, "b", "first")}) {
+		t.Errorf("Inverse: %+v", got)
+	}
 	r := rand.New(rand.NewPCG(3, 3))
 	for range 2000 {
 		var e []api.Entry

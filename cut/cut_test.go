@@ -177,6 +177,13 @@ func TestManyFreeFresh(t *testing.T) {
 	if l, ok := cut.Fresh(x, 3); !slices.Equal(l, []int{6, 8, 9}) || !ok {
 		t.Error("Fresh", l, ok)
 	}
+	low := api.Tree{Nodes: []api.Node{{}, {Kind: api.Inner, Kids: []int{3}}, {}, leafOf("a", "b")}}
+	if l, ok := cut.Fresh(low, 2); !cut.Free(low, 2) || !slices.Equal(l, []int{2, 4}) || !ok {
+		t.Error("the least number that may be free", l, ok)
+	}
+	if y, err := cut.Split(low, 1, 0, 2); err != api.OK || !slices.Equal(y.Nodes[1].Kids, []int{3, 2}) {
+		t.Error("Split with the number 2", err)
+	}
 	if l, ok := cut.Fresh(x, 0); len(l) != 0 || !ok {
 		t.Error("Fresh of 0", l, ok)
 	}

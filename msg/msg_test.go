@@ -73,6 +73,7 @@ func TestCheckSize(t *testing.T) {
 		{api.Msg{Kind: api.Clear}, api.OK},
 		{api.Msg{Kind: api.Clear, Key: "abc"}, api.OK},
 		{api.Msg{Kind: api.Clear, Key: "abcd"}, api.ErrSize},
+		{api.Msg{Kind: api.Clear, Key: "a", To: "abc"}, api.OK},
 		{api.Msg{Kind: api.Clear, Key: "abc", To: "abcd"}, api.ErrSize},
 		{api.Msg{Kind: api.Clear, Key: "z", To: "abcd"}, api.ErrSize},
 		{api.Msg{Kind: api.Clear, Key: "a", To: "a"}, api.ErrRange},

@@ -294,6 +294,25 @@ func TestPasses(t *testing.T) {
 			t.Errorf("at most %d: %d", most, n)
 		}
 	}
+	y, _ := plan.Passes(x, sizes, 0)
+	y.Nodes[1].Msgs[0].Key, y.Nodes[1].Kids[0] = "spoilt", 9
+	if x.Nodes[1].Msgs[0].Key != "a" || x.Nodes[1].Kids[0] != 2 {
+		t.Error("an answer lies in what was handed in")
+	}
+	// A root that is Heavy without messages is not due.
+	c := sizes
+	c.Buffer = -1
+	if _, n := plan.Passes(tree.New(), c, 5); n != 0 {
+		t.Error("a root without messages", n)
+	}
+	// A pass may need many numbers.
+	long := treeOf(inner(1, "xyz", 2), api.Node{Kind: api.Leaf})
+	for i := range 20000 {
+		long.Nodes[2].Blocks = append(long.Nodes[2].Blocks, []api.Entry{{Key: string([]byte{'a', byte('a' + i/400), byte('a' + i/20%20), byte('a' + i%20)})}})
+	}
+	if y, n := plan.Passes(long, sizes, 1); n != 1 || len(y.Nodes[1].Msgs) != 0 || len(y.Nodes[1].Kids) < 10 {
+		t.Error("many numbers", n, len(y.Nodes[1].Kids))
+	}
 	if y, n := plan.Passes(x, sizes, math.MaxInt); n != 1 || keys(y.Nodes[2]) != "abcdefghijklmnopqrstuvwxyz" {
 		t.Error("as many as are needed", n)
 	}

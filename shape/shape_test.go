@@ -86,6 +86,11 @@ func TestFaults(t *testing.T) {
 		{func(n []api.Node) []api.Node { n[2].Msgs[0].Seq = 8; n[1].Msgs[0].Seq = 99; return n }, []api.Fault{{Node: 1, Why: shape.Misread}}},
 		{func(n []api.Node) []api.Node {
 			n[2].Msgs[0].Seq = 8
+			n[1].Msgs[0], n[1].Msgs[1] = n[1].Msgs[1], n[1].Msgs[0]
+			return n
+		}, []api.Fault{{Node: 1, Why: shape.Misread}}},
+		{func(n []api.Node) []api.Node {
+			n[2].Msgs[0].Seq = 8
 			n[1].Blocks = [][]api.Entry{nil}
 			return n
 		}, []api.Fault{{Node: 1, Why: shape.Misplaced}, {Node: 2, Why: shape.Young}}},

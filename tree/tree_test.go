@@ -71,6 +71,9 @@ func TestNewSetOwn(t *testing.T) {
 	if y = tree.Set(x, 3, put); len(y.Nodes) != 8 || !reflect.DeepEqual(y.Nodes[3], put) || !reflect.DeepEqual(x, three()) {
 		t.Error("Set")
 	}
+	if y = tree.Set(x, 1, put); len(y.Nodes) != 8 || !reflect.DeepEqual(y.Nodes[1], put) {
+		t.Error("Set of the root")
+	}
 	if y = tree.Set(api.Tree{}, api.MaxNodes, put); len(y.Nodes) != api.MaxNodes+1 {
 		t.Error("Set of the greatest one")
 	}
@@ -211,6 +214,11 @@ func TestMeaning(t *testing.T) {
 				t.Errorf("Some(%q, %d) = %q", r.r, n, got)
 			}
 		}
+	}
+	// A leaf's own messages play no part.
+	x.Nodes[3].Msgs = []api.Msg{put(30, "c", "of the leaf")}
+	if v, ok := tree.Get(x, "c"); v != "cc" || !ok || len(tree.Msgs(x, "c")) != 0 || !slices.Equal(tree.Entries(x, api.Range{}), want) {
+		t.Error("the messages of a leaf", v, ok)
 	}
 	n := tree.New()
 	n.Nodes[1].Msgs = []api.Msg{put(1, "a", "x")}

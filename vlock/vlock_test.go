@@ -89,6 +89,15 @@ func TestGiveBack(t *testing.T) {
 func TestRenew(t *testing.T) {
 	l, err := vlock.Renew(gone)
 	is(t, "Renew", l, api.Lock{Version: 5}, err, api.OK)
+	for _, who := range []int{1, api.MaxSessions} {
+		mine := api.Lock{Version: 2, Owner: who}
+		l, err := vlock.Free(mine, who)
+		is(t, "Free", l, api.Lock{Version: 2}, err, api.OK)
+		l, err = vlock.Bump(mine, who)
+		is(t, "Bump", l, api.Lock{Version: 3}, err, api.OK)
+		l, err = vlock.Retire(mine, who)
+		is(t, "Retire", l, api.Lock{Version: 3, Gone: true}, err, api.OK)
+	}
 	l, err = vlock.Renew(api.Lock{Version: 5, Owner: 2, Gone: true})
 	is(t, "Renew", l, api.Lock{Version: 6}, err, api.OK)
 	for _, x := range []api.Lock{fresh, held, last} {

@@ -94,6 +94,9 @@ func TestText(t *testing.T) {
 		if got, rest, err := word.TakeText(b+"behind", len(s)); got != s || rest != "behind" || err != api.OK {
 			t.Errorf("TakeText of %q: %q, %q, %d", s, got, rest, err)
 		}
+		if got, rest, err := word.TakeText(b, len(s)+1); got != s || rest != "" || err != api.OK {
+			t.Errorf("TakeText of %q, nothing behind: %q, %q, %d", s, got, rest, err)
+		}
 		if got, rest, err := word.TakeText(b, len(s)-1); got != "" || rest != "" || err != api.ErrLimit {
 			t.Errorf("TakeText of %q, one fewer: %q, %q, %d", s, got, rest, err)
 		}

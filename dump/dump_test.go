@@ -3,6 +3,7 @@ package dump_test
 import (
 	"math"
 	"math/rand/v2"
+	"strconv"
 	"strings"
 	"testing"
 
@@ -69,16 +70,25 @@ func TestPrint(t *testing.T) {
 	if _, err := dump.Print(api.Tree{Nodes: make([]api.Node, api.MaxNodes+2)}); err != api.ErrForm {
 		t.Error("one node more", err)
 	}
-	// just as long as may be: "tree 2\nleaf 1\nblock -  " and two digits a byte
-	for more, want := range []api.Errno{api.OK, api.ErrLimit} {
-		long := api.Tree{Nodes: []api.Node{{}, {Kind: api.Leaf, Blocks: [][]api.Entry{{{Value: strings.Repeat("v", (1<<22-len("tree 2\nleaf 1\nblock - \n"))/2+more)}}}}}}
+	// just as long as may be: two digits a byte, and what stands around
+	longest := 0
+	for i := range 4 {
+		more, want := i%2, []api.Errno{api.OK, api.ErrLimit}[i%2]
+		nodes := make([]api.Node, []int{2, 10}[i/2]) // one digit more, so that one of both fits to the byte
+		around := len("tree " + strconv.Itoa(len(nodes)) + "\nleaf 1\nblock - \n")
+		nodes[1] = api.Node{Kind: api.Leaf, Blocks: [][]api.Entry{{{Value: strings.Repeat("v", (1<<22-around)/2+more)}}}}
+		long := api.Tree{Nodes: nodes}
 		got, err := dump.Print(long)
-		if err != want || dump.Lines(long) != 3 || err == api.OK && len(got) < 1<<22-1 {
+		if err != want || dump.Lines(long) != 3 {
 			t.Errorf("%d bytes: %d, want %d", len(got), err, want)
 		}
+		longest = max(longest, len(got))
 		if y, line, err := dump.Parse(got); want == api.OK && (!dump.Same(y, long) || line != 0 || err != api.OK) {
 			t.Error("Parse of a long one", line, err)
 		}
+	}
+	if longest != 1<<22 {
+		t.Error("the longest one has", longest)
 	}
 }
 

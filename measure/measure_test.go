@@ -24,7 +24,7 @@ func three() api.Tree {
 		{Kind: api.Inner, Pivots: []string{"m"}, Kids: []int{2, 3}, Msgs: m(3)},
 		{Kind: api.Inner, Pivots: []string{"d"}, Kids: []int{4, 5}, Msgs: m(1)},
 		{Kind: api.Inner, Kids: []int{6}, Msgs: m(4), Blocks: e(50)},
-		{Kind: api.Leaf, Blocks: e(2), Msgs: m(9), Kids: []int{1, 2}}, {Kind: api.Leaf}, {Kind: api.Leaf, Blocks: e(3)}, {Kind: api.Leaf, Blocks: e(9)},
+		{Kind: api.Leaf, Blocks: e(2), Msgs: m(9), Kids: []int{3, 6, 1}}, {Kind: api.Leaf}, {Kind: api.Leaf, Blocks: e(3)}, {Kind: api.Leaf, Blocks: e(9)},
 	}}
 }
 

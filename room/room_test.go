@@ -152,7 +152,7 @@ func TestAsk(t *testing.T) {
 		{api.Op{Kind: api.Look, Key: "abcd", N: 1}, api.ErrSize}, {api.Op{Kind: api.Look, To: "abcd", N: 0}, api.ErrSize}, {api.Op{Kind: api.Look, Key: "b", To: "abcd", N: 0}, api.ErrSize},
 		{api.Op{Kind: api.Look, Key: "b", To: "b", N: 1}, api.ErrRange}, {api.Op{Kind: api.Look, Key: "b", To: "a", N: 0}, api.ErrRange},
 		{api.Op{Kind: api.Look, N: 1, Batch: msgs(put)}, api.ErrForm},
-		{api.Op{Kind: api.Open}, api.OK}, {api.Op{Kind: api.Open, Key: "a", To: "b"}, api.OK}, {api.Op{Kind: api.Open, N: 1}, api.ErrForm}, {api.Op{Kind: api.Open, Batch: msgs(put)}, api.ErrForm},
+		{api.Op{Kind: api.Open}, api.OK}, {api.Op{Kind: api.Open, Key: "a", To: "b"}, api.OK}, {api.Op{Kind: api.Open, Key: "a", To: "abc"}, api.OK}, {api.Op{Kind: api.Open, N: 1}, api.ErrForm}, {api.Op{Kind: api.Open, Batch: msgs(put)}, api.ErrForm},
 		{api.Op{Kind: api.Open, Key: "abcd"}, api.ErrSize}, {api.Op{Kind: api.Open, To: "abcd"}, api.ErrSize}, {api.Op{Kind: api.Open, Key: "b", To: "b"}, api.ErrRange},
 		{api.Op{Kind: api.Next}, api.OK}, {api.Op{Kind: api.Next, N: -5}, api.OK}, {api.Op{Kind: api.Close, N: math.MaxInt}, api.OK},
 		{api.Op{Kind: api.Next, N: 1, Key: "a"}, api.ErrForm}, {api.Op{Kind: api.Close, N: 1, To: "a"}, api.ErrForm}, {api.Op{Kind: api.Next, Batch: msgs(put)}, api.ErrForm},

@@ -207,6 +207,33 @@ func TestRestarts(t *testing.T) {
 	}
 }
 
+func TestForkGoesOnByItself(t *testing.T) {
+	s := three(t)
+	c := scan.New(1, api.Range{}, 9, 1)
+	steps(t, c, s, move(api.Read, 1, 0), move(api.Read, 2, 0), move(api.Read, 4, 0))
+	f, z := c.Fork(), s.Fork()
+	// where the fork goes on 5 has another version, and another value of f
+	z.Try(2, 2)
+	z.Try(5, 2)
+	z.Try(1, 2)
+	z.Send(2, []api.Msg{{Kind: api.Put, Key: "f", Value: "new"}})
+	z.Pour(2, 1, 0)
+	z.Pour(2, 2, 1)
+	z.Give(5, 2)
+	steps(t, c, s, move(api.Read, 5, 0))
+	steps(t, f, z, move(api.Read, 5, 1), move(api.Read, 3, 0), move(api.Read, 6, 0))
+	steps(t, c, s, move(api.Read, 3, 0), move(api.Read, 6, 0))
+	for !c.Done() {
+		if m := c.Step(s); m.What != api.Checked {
+			t.Fatal(m)
+		}
+	}
+	if !slices.Equal(c.Reply().Entries, all) || !slices.Equal(c.Nodes(), []int{1, 2, 4, 5, 3, 6}) {
+		t.Error("a fork changed the scan", c.Reply())
+	}
+	steps(t, f, z, move(api.Blocked, 1, 0))
+}
+
 func TestGoneNode(t *testing.T) {
 	s := three(t)
 	c := scan.New(1, api.Range{}, 9, 1)

@@ -43,11 +43,7 @@ func formed(o api.Op) bool {
 			return false
 		}
 	}
-	alone := o
-	if o.Kind == api.Send {
-		alone.Batch = nil
-	}
-	return inRange(o.N) && room.Ask(alone, anySizes) != api.ErrForm
+	return inRange(o.N) && room.Ask(o, anySizes) != api.ErrForm
 }
 
 // numbersOf is a Config's numbers, in the order of its fields.

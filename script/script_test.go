@@ -95,16 +95,23 @@ func TestPrint(t *testing.T) {
 		}
 	}
 	// just as long as may be: two digits a byte, and what stands around
-	rest, _ := script.Print(one(api.Op{Kind: api.Look, Key: "k"}))
-	for more, want := range []api.Errno{api.OK, api.ErrLimit} {
+	longest := 0
+	for i := range 4 {
+		more, want := i%2, []api.Errno{api.OK, api.ErrLimit}[i%2]
+		n := []int{1, 10}[i/2] // one digit more, so that one of both fits to the byte
+		rest, _ := script.Print(one(api.Op{Kind: api.Look, Key: "k", N: n}))
 		key := strings.Repeat("k", (1<<20-len(rest))/2+1+more)
-		got, err := script.Print(one(api.Op{Kind: api.Look, Key: key}))
-		if err != want || err == api.OK && len(got) < 1<<20-1 {
+		got, err := script.Print(one(api.Op{Kind: api.Look, Key: key, N: n}))
+		if err != want {
 			t.Errorf("%d bytes: %d, want %d", len(got), err, want)
 		}
+		longest = max(longest, len(got))
 		if y, line, err := script.Parse(got); want == api.OK && (err != api.OK || line != 0 || len(y.Ops) != 2) {
 			t.Error("Parse of a long one", line, err)
 		}
+	}
+	if longest != 1<<20 {
+		t.Error("the longest one has", longest)
 	}
 }
 

@@ -119,7 +119,7 @@ func TestMessagesAndOperations(t *testing.T) {
 	if len(kinds) != 4 || len(ops) != 5 {
 		t.Error(kinds, ops)
 	}
-	for _, x := range []struct{ sessions, n, want int }{{3, 5, 5}, {3, 0, 0}, {3, -1, 0}, {0, 5, 0}, {-1, 5, 0}, {math.MinInt, math.MinInt, 0}, {3, 10000, 10000}, {3, 10001, 10000}, {math.MaxInt, math.MaxInt, 10000}} {
+	for _, x := range []struct{ sessions, n, want int }{{3, 5, 5}, {1, 4, 4}, {3, 0, 0}, {3, -1, 0}, {0, 5, 0}, {-1, 5, 0}, {math.MinInt, math.MinInt, 0}, {3, 10000, 10000}, {3, 10001, 10000}, {math.MaxInt, math.MaxInt, 10000}} {
 		var want []int
 		for range x.want {
 			want = append(want, p.below(x.sessions)+1)

@@ -225,7 +225,7 @@ func TestTryAndGive(t *testing.T) {
 		is(t, "Try", s.Try(99, who), api.ErrArg)
 		is(t, "Enter", s.Enter(who), api.ErrArg)
 		is(t, "Leave", s.Leave(who), api.ErrArg)
-		if _, err := s.Give(1, who); err != api.ErrOwner {
+		if b, err := s.Give(1, who); b || err != api.ErrOwner {
 			t.Error("Give", err)
 		}
 	}
@@ -248,6 +248,12 @@ func TestTryAndGive(t *testing.T) {
 	if _, err := s.Begin(3); err != api.ErrLocked || s.Valid(3, 0) != api.ErrLocked || s.Valid(3, 1) != api.ErrOrder {
 		t.Error("of a node that is held", err)
 	}
+	s.Try(1, 2)
+	s.Send(2, nil)
+	if b, err := s.Give(1, 1); b || err != api.ErrOwner {
+		t.Error("Give of one that another one has changed", err)
+	}
+	back(t, s, 1, 2, true)
 	if _, err := s.Give(3, 2); err != api.ErrOwner {
 		t.Error("Give by another one", err)
 	}
@@ -256,13 +262,13 @@ func TestTryAndGive(t *testing.T) {
 		t.Error("of a node that was given back", v, err)
 	}
 	hold(t, s, 1, 1)
-	if n, err := s.Send(1, nil); n != 1 || err != api.OK {
+	if n, err := s.Send(1, nil); n != 2 || err != api.OK {
 		t.Error("Send of nothing", n, err)
 	}
 	back(t, s, 1, 1, true)
 	hold(t, s, 2, 1)
 	back(t, s, 1, 2, false) // it is not changed since it was taken
-	if s.Valid(1, 0) != api.ErrOrder || s.Valid(1, 1) != api.OK {
+	if s.Valid(1, 1) != api.ErrOrder || s.Valid(1, 2) != api.OK {
 		t.Error("Valid")
 	}
 }
@@ -407,7 +413,7 @@ func TestWithoutNumbers(t *testing.T) {
 	}
 	one, _ := state.New(sizes, 1)
 	hold(t, one, 1, 1)
-	if _, _, err := one.Grow(1); err != api.ErrState {
+	if a, b, err := one.Grow(1); a != 0 || b != 0 || err != api.ErrState {
 		t.Error("Grow of a root with one kid", err)
 	}
 }
@@ -510,14 +516,17 @@ func TestForkAndNil(t *testing.T) {
 	if _, ok := n.Span(1); ok {
 		t.Error("Span")
 	}
-	_, e1 := n.Give(1, 1)
-	_, e2 := n.Begin(1)
-	_, e3 := n.Send(1, nil)
-	_, _, e4 := n.Grow(1)
-	_, e5 := n.Split(1, 1, 0)
-	_, e6 := n.Pour(1, 1, 0)
-	_, e7 := n.Weld(1, 1, 0)
-	_, e8 := n.Sink(1)
+	b1, e1 := n.Give(1, 1)
+	n2, e2 := n.Begin(1)
+	n3, e3 := n.Send(1, nil)
+	n4, m4, e4 := n.Grow(1)
+	n5, e5 := n.Split(1, 1, 0)
+	n6, e6 := n.Pour(1, 1, 0)
+	n7, e7 := n.Weld(1, 1, 0)
+	n8, e8 := n.Sink(1)
+	if b1 || n2+n3+n4+m4+n5+n6+n7+n8 != 0 {
+		t.Error("something beside an error")
+	}
 	for i, err := range []api.Errno{n.Enter(1), n.Leave(1), n.Try(1, 1), n.Try(1, 0), n.Valid(1, 0), n.Share(1, 1, 0), e1, e2, e3, e4, e5, e6, e7, e8} {
 		if err != api.ErrNil {
 			t.Errorf("call %d: %d", i, err)

@@ -96,6 +96,9 @@ func TestPicked(t *testing.T) {
 	if got := trace.Rounds(l, 2); !slices.Equal(got, []int{3}) {
 		t.Error("Rounds", got)
 	}
+	if got := trace.Rounds([]api.Move{mv(1, api.Begun, 0), mv(1, api.Answered, 0), mv(1, api.Read, 0), mv(1, api.Answered, 0)}, 1); !slices.Equal(got, []int{2}) {
+		t.Error("Rounds of one that was answered twice", got)
+	}
 	if got := trace.Rounds([]api.Move{mv(1, api.Answered, 0), mv(1, api.Read, 0)}, 1); len(got) != 0 {
 		t.Error("Rounds of one that was not begun", got)
 	}

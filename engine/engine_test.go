@@ -334,6 +334,11 @@ func TestWhatFollows(t *testing.T) {
 			}
 			seen[m.What]++
 			switch m.What {
+			case api.Welded, api.Sunk:
+				// Who did it is in: what is gone waits.
+				if w := e.Waits(); len(w) == 0 || !e.Words()[w[len(w)-1]].Gone {
+					t.Fatal("Waits", w)
+				}
 			case api.Read:
 				read[[2]int{who, m.Node}] = m.Version
 			case api.Blocked:
@@ -404,6 +409,52 @@ func TestWhatFollows(t *testing.T) {
 	for k := api.Get; k <= api.Next; k++ {
 		if answered[k] == 0 {
 			t.Error("never asked:", k)
+		}
+	}
+}
+
+// same: are two machines alike in all that they tell?
+func same(a, b *engine.Engine) bool {
+	return reflect.DeepEqual(a.Done(), b.Done()) && slices.Equal(a.Moves(), b.Moves()) && reflect.DeepEqual(a.Tree(), b.Tree()) && slices.Equal(a.Words(), b.Words()) &&
+		slices.Equal(a.Waits(), b.Waits()) && slices.Equal(a.Pending(), b.Pending()) && a.Picks() == b.Picks() && a.Stamp() == b.Stamp() && a.Left() == b.Left() && a.Idle() == b.Idle()
+}
+
+// P29.1, P29.2
+func TestPlayAndFork(t *testing.T) {
+	r := rand.New(rand.NewPCG(3, 3))
+	picks := func(n int) []int {
+		var l []int
+		for range n {
+			l = append(l, r.IntN(5)) // 0 and 4 are no sessions
+		}
+		return l
+	}
+	play := func(x api.Script, picks ...[]int) *engine.Engine {
+		x.Picks = slices.Concat(picks...)
+		e, err := engine.Play(x)
+		if err != api.OK {
+			t.Fatal(err)
+		}
+		return e
+	}
+	for range 80 {
+		x := script(r, 3, 12)
+		first, one, two := picks(r.IntN(300)), picks(200), picks(200)
+		e := play(x, first)
+		f := e.Fork()
+		if !same(e, f) || !same(e, play(x, first)) {
+			t.Fatal("a fork, or the same picks once more")
+		}
+		for i := range one {
+			e.Pick(one[i])
+			f.Pick(two[i])
+		}
+		if !same(e, play(x, first, one)) || !same(f, play(x, first, two)) {
+			t.Fatal("a machine and its fork do not go on by themselves")
+		}
+		f.Stop()
+		if e.Idle() != play(x, first, one).Idle() {
+			t.Fatal("a fork stopped its machine")
 		}
 	}
 }

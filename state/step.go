@@ -2,6 +2,7 @@ package state
 
 import (
 	"math"
+	"slices"
 
 	"catchment/api"
 	"catchment/cut"
@@ -27,6 +28,19 @@ func (s *State) adoptFresh(t api.Tree, fresh ...int) {
 	for _, i := range fresh {
 		s.nodes.Set(i, t.Nodes[i])
 	}
+}
+
+// sketch is the tree with the messages and entries of one node and of its kids
+// alone: a step at that node asks for no others, and need not go through them.
+func (s *State) sketch(i int) api.Tree {
+	t := s.shared()
+	n, _ := s.nodes.Get(i)
+	for j := range t.Nodes {
+		if j != i && !slices.Contains(n.Kids, j) {
+			t.Nodes[j].Msgs, t.Nodes[j].Blocks = nil, nil
+		}
+	}
+	return t
 }
 
 // take takes numbers, each of which has a word then.
@@ -87,9 +101,9 @@ func (s *State) Send(who int, l []api.Msg) (int, api.Errno) {
 		s.seq++
 		sent[i].Seq = s.seq
 	}
-	t := s.shared()
-	t.Nodes[root] = inner.Add(t.Nodes[root], sent...)
-	s.adopt(t, root)
+	top, _ := s.nodes.Get(root)
+	s.nodes.Set(root, inner.Add(top, sent...))
+	s.changed[root]++
 	s.stamp++
 	return s.stamp, api.OK
 }
@@ -102,14 +116,14 @@ func (s *State) Grow(who int) (int, int, api.Errno) {
 	if !s.holds(who, root) {
 		return 0, 0, api.ErrOwner
 	}
-	if t := s.shared(); len(t.Nodes[root].Kids) < 2 {
+	if top, _ := s.nodes.Get(root); len(top.Kids) < 2 {
 		return 0, 0, api.ErrState
 	}
 	fresh, err := s.take(2)
 	if err != api.OK {
 		return 0, 0, err
 	}
-	t, err := cut.Grow(s.shared(), fresh[0], fresh[1])
+	t, err := cut.Grow(s.sketch(root), fresh[0], fresh[1])
 	if err != api.OK {
 		return 0, 0, err
 	}
@@ -123,7 +137,7 @@ func (s *State) Split(who, i, at int) (int, api.Errno) {
 	if s == nil {
 		return 0, api.ErrNil
 	}
-	t := s.shared()
+	t := s.sketch(i)
 	kid, ok := kids(t, i, at, 1)
 	if !ok {
 		return 0, api.ErrArg
@@ -138,7 +152,7 @@ func (s *State) Split(who, i, at int) (int, api.Errno) {
 	if err != api.OK {
 		return 0, err
 	}
-	t, err = cut.Split(s.shared(), i, at, fresh[0])
+	t, err = cut.Split(s.sketch(i), i, at, fresh[0])
 	if err != api.OK {
 		return 0, err
 	}
@@ -152,7 +166,7 @@ func (s *State) Pour(who, i, at int) (int, api.Errno) {
 	if s == nil {
 		return 0, api.ErrNil
 	}
-	t := s.shared()
+	t := s.sketch(i)
 	kid, ok := kids(t, i, at, 1)
 	if !ok {
 		return 0, api.ErrArg
@@ -185,7 +199,7 @@ func (s *State) Weld(who, i, at int) (int, api.Errno) {
 	if s == nil {
 		return 0, api.ErrNil
 	}
-	t := s.shared()
+	t := s.sketch(i)
 	pair, err := s.pair(t, who, i, at)
 	if err != api.OK {
 		return 0, err
@@ -204,7 +218,7 @@ func (s *State) Share(who, i, at int) api.Errno {
 	if s == nil {
 		return api.ErrNil
 	}
-	t := s.shared()
+	t := s.sketch(i)
 	pair, err := s.pair(t, who, i, at)
 	if err != api.OK {
 		return err
@@ -225,7 +239,7 @@ func (s *State) Sink(who int) (int, api.Errno) {
 	if !s.holds(who, root) {
 		return 0, api.ErrOwner
 	}
-	t := s.shared()
+	t := s.sketch(root)
 	only := t.Nodes[root].Kids
 	if len(only) != 1 || t.Nodes[only[0]].Kind != api.Inner {
 		return 0, api.ErrState
